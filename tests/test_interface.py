@@ -1,0 +1,72 @@
+"""The names, arguments and places that the document's interface tells, for the chapters that have landed."""
+
+import ast
+import importlib
+import inspect
+import unittest
+
+FUNCTIONS = {
+    "whole": """is_integer(value) is_small_prime(value) power(a,k) divisors(n) factors(n) inverse(a,p)""",
+    "linear": """is_row(value,p,n) add(v,w,p) scaled(v,a,p) dot(v,w,p) combine(rows,weights,width,p)
+        reduced(rows,width,p) span(rows,width,p) kernel(rows,width,p) relations(rows,width,p)
+        unsolved(rows,width,right,p) solve(rows,width,right,p) coordinates(rows,v,p) rest(space,v,p)
+        space_holds(space,v,p) sum_of(a,b,width,p) common_part(a,b,width,p) all_rows(space,width,p) identity(n)
+        is_matrix(value,p,n) moved(v,matrix,p) times(one,two,p) matrix_power(matrix,k,p) is_invertible(matrix,p)
+        matrix_inverse(matrix,p)""",
+    "pres": """read_presentation(text)""",
+    "collect": """collected(presentation,word) product(presentation,x,y) overlaps(presentation)
+        failing_overlap(presentation) is_consistent(presentation)""",
+    "build": """cyclic(n) dihedral(n) dicyclic(n) abelian(orders) metacyclic(n,m,k) heisenberg(p) symmetric(n)
+        alternating(n) direct(a,b) wreath(a,p) semidirect(a,b,images)""",
+}
+
+CLASSES = {
+    ("errors", "Fault"): "",
+    ("errors", "Malformed"): "",
+    ("errors", "Refused"): "__init__(self,reason)",
+    ("errors", "NoText"): "__init__(self,at)",
+    ("pres", "Presentation"): """__init__(self,primes,powers,conjugates) is_row(self,value) conjugate_row(self,i,j)
+        letters(self,row) __eq__(self,other) __str__(self)""",
+    ("group", "Group"): """__init__(self,presentation) __eq__(self,other) is_element(self,value) identity(self)
+        generator(self,i) all_elements(self) multiply(self,x,y) inverse(self,x) power(self,x,k) conjugated(self,x,y)
+        commutator(self,x,y) order_of(self,x) place(self,x) product_of(self,items) value(self,word)""",
+}
+
+
+def signature(function):
+    return f"{function.__name__}({','.join(inspect.signature(function).parameters)})"
+
+
+class Interface(unittest.TestCase):
+    def test_functions_stand_in_their_files(self):
+        for name, told in FUNCTIONS.items():
+            module = importlib.import_module(f"polychains.{name}")
+            for line in told.split():
+                function = getattr(module, line.partition("(")[0])
+                self.assertTrue(inspect.isfunction(function), line)
+                self.assertEqual(function.__module__, module.__name__)
+                self.assertEqual(signature(function), line)
+
+    def test_classes_define_their_methods(self):
+        for (name, kind), told in CLASSES.items():
+            module = importlib.import_module(f"polychains.{name}")
+            made = getattr(module, kind)
+            self.assertEqual(made.__module__, module.__name__)
+            for line in told.split():
+                method = vars(made)[line.partition("(")[0]]
+                self.assertEqual(signature(method), line)
+
+    def test_generators_are_generators(self):
+        from polychains.group import Group
+        from polychains.linear import all_rows
+        self.assertTrue(inspect.isgeneratorfunction(all_rows))
+        self.assertTrue(inspect.isgeneratorfunction(Group.all_elements))
+
+    def test_init_defines_nothing(self):
+        import polychains
+        with open(polychains.__file__) as file:
+            self.assertEqual(ast.parse(file.read()).body, [])
+
+
+if __name__ == "__main__":
+    unittest.main()
