@@ -49,15 +49,19 @@ class Group:
         """Returns `x y`."""
         return self._collector.behind(x, self.presentation.letters(y))
 
-    def inverse(self, x):
-        """Returns the inverse of an element."""
+    def divided(self, x, y):
+        """Returns `x^-1 y`, the element `z` with `x z = y`."""
         found = []
         for i in range(self.n):
-            # So many letters bring the item at this place to 0; those before it stay 0.
-            many = -x[i] % self.primes[i]
+            # So many letters bring the item at this place to that of `y`; those before it stay.
+            many = (y[i] - x[i]) % self.primes[i]
             x = self._collector.behind(x, (i + 1,) * many)
             found.append(many)
         return tuple(found)
+
+    def inverse(self, x):
+        """Returns the inverse of an element."""
+        return self.divided(x, self.identity())
 
     def power(self, x, k):
         """Returns `x^k`, for every integer `k`."""
@@ -67,17 +71,19 @@ class Group:
         while k > 0:
             if k & 1:
                 result = self.multiply(result, x)
-            x = self.multiply(x, x)
             k = k >> 1
+            # The last square would not be used.
+            if k > 0:
+                x = self.multiply(x, x)
         return result
 
     def conjugated(self, x, y):
         """Returns `y^-1 x y`."""
-        return self.multiply(self.inverse(y), self.multiply(x, y))
+        return self.divided(y, self.multiply(x, y))
 
     def commutator(self, x, y):
         """Returns `x^-1 y^-1 x y`."""
-        return self.multiply(self.inverse(self.multiply(y, x)), self.multiply(x, y))
+        return self.divided(self.multiply(y, x), self.multiply(x, y))
 
     def place(self, x):
         """Returns the first index at which the row is not 0, `n` for 1."""

@@ -4,7 +4,10 @@ import itertools
 
 from polychains.errors import Fault, Malformed, NoText, Refused
 from polychains.group import Group
+from polychains.maps import Hom
 from polychains.pres import Presentation
+from polychains.quotient import Quotient
+from polychains.subgroup import Subgroup, trivial, whole
 
 
 def triangle():
@@ -22,6 +25,8 @@ def odd_values():
         ((0, 0), (0, 0)), [(0, 0), (0, 0)], ((0, 0), [0, 0]), ([0, 0], (0, 0)), ((1, 0), (0, True)),
         ((0, 0), (0, 0), (0, 0)), (((0, 0),),), ((((),),),),
         triangle(), (triangle(),), [triangle()], Group(triangle()), (Group(triangle()), 0),
+        whole(Group(triangle())), trivial(Group(triangle())), (whole(Group(triangle())),), [trivial(Group(triangle()))],
+        Quotient(Group(triangle()), whole(Group(triangle()))), Hom(Group(triangle()), Group(triangle()), ((0, 0), (0, 0))),
         Fault("word"), Malformed("word"), Refused("word"), NoText(3), (Refused("word"),),
     ]
 
@@ -57,6 +62,12 @@ def shown(value):
         return f"presentation{shown((value.n, value.primes, value.powers, value.conjugates, value.order))}"
     if isinstance(value, Group):
         return f"group{shown((value.presentation, value.n, value.primes, value.order))}"
+    if isinstance(value, Subgroup):
+        return f"subgroup{shown((value.group, value.rows, value.places, value.order))}"
+    if isinstance(value, Quotient):
+        return f"quotient{shown((value.source, value.kernel, value.group))}"
+    if isinstance(value, Hom):
+        return f"hom{shown((value.source, value.target, value.images))}"
     return repr(value)
 
 

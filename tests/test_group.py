@@ -124,6 +124,15 @@ class Products(GroupCase):
                 self.assertEqual(group.multiply(x, found), group.identity())
                 self.assertEqual(group.multiply(found, x), group.identity())
 
+    def test_divided(self):
+        for group in self.groups():
+            some = list(group.all_elements())[-25:]
+            for x in some:
+                for y in some:
+                    found = unchanged(group.divided, x, y)
+                    self.assertTrue(group.is_element(found))
+                    self.assertEqual(group.multiply(x, found), y)
+
     def test_powers(self):
         for group in self.groups():
             for x in list(group.all_elements())[:40]:

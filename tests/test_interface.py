@@ -18,6 +18,18 @@ FUNCTIONS = {
         failing_overlap(presentation) is_consistent(presentation)""",
     "build": """cyclic(n) dihedral(n) dicyclic(n) abelian(orders) metacyclic(n,m,k) heisenberg(p) symmetric(n)
         alternating(n) direct(a,b) wreath(a,p) semidirect(a,b,images)""",
+    "subgroup": """whole(group) trivial(group) generated(group,items) normal_closure(group,items) join(a,b) meet(a,b)
+        conjugated(u,x) is_normal(u) representative(u,x) transversal(u)""",
+    "series": """commutators(a,b) derived_series(group) lower_central_series(group) upper_central_series(group)
+        is_abelian(group) is_nilpotent(group) exponent(group) abelian_invariants(group) minimal_normal(group)
+        chief_series(group) chief_factors(group)""",
+    "classes": """centralizer(group,items) centre(group) normalizer(u) class_of(group,x) conjugacy_classes(group)
+        conjugator(group,x,y) subgroup_conjugator(u,v) subgroup_class(u)""",
+    "maps": """satisfies(a,b,images) homs(a,b) automorphisms(g) find_isomorphism(a,b)""",
+    "complement": """equations(group,n) prime_of(group,n) complement(group,n) combination(group,n) complements(group,n)
+        cocycles(group,n) coboundaries(group,n) class_count(group,n)""",
+    "hall": """is_hall(group,u,primes) hall(group,primes) sylow(group,p) moved_into(group,u,h) sylow_count(group,p)
+        sylow_system(group)""",
 }
 
 CLASSES = {
@@ -30,6 +42,11 @@ CLASSES = {
     ("group", "Group"): """__init__(self,presentation) __eq__(self,other) is_element(self,value) identity(self)
         generator(self,i) all_elements(self) multiply(self,x,y) inverse(self,x) power(self,x,k) conjugated(self,x,y)
         commutator(self,x,y) order_of(self,x) place(self,x) product_of(self,items) value(self,word)""",
+    ("subgroup", "Subgroup"): """__init__(self,group,rows) index(self) contains(self,value) exponents(self,x)
+        all_members(self) is_inside(self,other) __eq__(self,other)""",
+    ("quotient", "Quotient"): """__init__(self,group,normal) image(self,x) lift(self,y) image_of(self,u) lifted(self,u)""",
+    ("maps", "Hom"): """__init__(self,a,b,images) __eq__(self,other) value(self,x) then(self,other) kernel(self)
+        image(self) is_one_to_one(self) is_onto(self)""",
 }
 
 

@@ -30,6 +30,8 @@ WORDS = """type typing typing_extensions enum Enum IntEnum StrEnum Flag IntFlag 
 
 CHANGING = "append clear extend insert pop remove reverse setdefault update".split()
 
+LIBRARY = {"heapq": "heappush heappop heapify heapreplace heappushpop", "math": "gcd lcm isqrt comb perm factorial"}
+
 AT_ONCE = "list tuple dict sorted sum any all enumerate zip min max len".split()
 
 NODES = (ast.Module, ast.ImportFrom, ast.alias, ast.FunctionDef, ast.ClassDef, ast.arguments, ast.arg, ast.Return,
@@ -132,13 +134,27 @@ class Language(unittest.TestCase):
             names = module_names(tree)
             self.assertEqual(len(names), len(set(names)), name)
 
+    def assert_only_called(self, tree, words, name):
+        """Checks that the words are used, and only called with arguments by position, in functions."""
+        used = [node for node in ast.walk(tree) if isinstance(node, ast.Name) and node.id in words]
+        self.assertEqual({node.id for node in used}, set(words), name)
+        for node in used:
+            self.assertTrue(isinstance(node.parent, ast.Call) and node.parent.func is node, name)
+            self.assertEqual(node.parent.keywords, [], name)
+
     def test_imports(self):
         uses = {}
         for name in files():
             tree = parsed(name)
             uses[name] = set()
             for node in ast.walk(tree):
-                if isinstance(node, ast.ImportFrom):
+                if isinstance(node, ast.ImportFrom) and node.module in LIBRARY:
+                    self.assertIn(node, tree.body)
+                    for alias in node.names:
+                        self.assertIn(alias.name, LIBRARY[node.module].split(), name)
+                        self.assertIsNone(alias.asname, name)
+                    self.assert_only_called(tree, [alias.name for alias in node.names], name)
+                elif isinstance(node, ast.ImportFrom):
                     self.assertIn(node, tree.body)
                     package, _, of = node.module.partition(".")
                     self.assertEqual((package, node.level), ("polychains", 0), name)
