@@ -10,13 +10,15 @@ from polychains.whole import power
 MOST_COMPLEMENTS = 1000
 
 
+def _prime(n):
+    """Returns the only prime that may divide the order of an elementary abelian subgroup."""
+    return n.group.primes[n.places[0]] if n.places else 2
+
+
 def _is_elementary(n):
     """Tells whether a subgroup is elementary abelian."""
     group = n.group
-    primes = [group.primes[at] for at in n.places]
-    if any([p != primes[0] for p in primes]):
-        return False
-    if any([group.power(x, primes[0]) != group.identity() for x in n.rows]):
+    if any([group.power(x, _prime(n)) != group.identity() for x in n.rows]):
         return False
     return all([group.multiply(x, y) == group.multiply(y, x) for x in n.rows for y in n.rows])
 
@@ -28,10 +30,6 @@ def _check(group, n):
         raise Refused("normal")
     if not _is_elementary(n):
         raise Refused("abelian")
-
-
-def _prime(n):
-    return n.group.primes[n.places[0]] if n.places else 2
 
 
 def prime_of(group, n):

@@ -89,12 +89,14 @@ class Table:
         self.rows = list(group.all_elements())
         self.size = group.order
         numbers = {row: k for k, row in enumerate(self.rows)}
-        self.generators = [numbers[group.generator(i)] for i in range(group.n)]
+        self.generators = [numbers[row] for row in generators_of(group)]
         # The item `x` of the column `y` is the number of `x y`.
         self.columns = _columns(group, self.rows, numbers)
         self.orders = [group.order_of(row) for row in self.rows]
         self.class_sizes = _class_sizes(self.columns)
-        self.depths = list(zip(_depths(derived_series(group), numbers), _depths(lower_central_series(group), numbers)))
+        # By these a homomorphism can make the order only a divisor, and the depths only more.
+        self.kinds = list(zip(self.orders, _depths(derived_series(group), numbers),
+                              _depths(lower_central_series(group), numbers)))
 
 
 def _last_place(row):
@@ -103,13 +105,13 @@ def _last_place(row):
 
 def _columns(group, rows, numbers):
     """Returns for each element the numbers of the products of all elements with it."""
-    steps = [[numbers[group.multiply(row, group.generator(i))] for row in rows] for i in range(group.n)]
+    steps = [[numbers[group.multiply(x, mover)] for x in rows] for mover in generators_of(group)]
     columns = [list(range(group.order))]
     for row in rows[1:]:
         at = _last_place(row)
         # The normal word of a row is that of a lesser row with its last letter behind it.
         before = columns[numbers[row[:at] + (row[at] - 1,) + row[at + 1:]]]
-        columns.append([steps[at][x] for x in before])
+        columns.append([steps[at][number] for number in before])
     return columns
 
 
@@ -121,8 +123,8 @@ def _class_sizes(columns):
 def _depths(terms, numbers):
     """Returns for each element the number of the terms of a series that contain it, DEEPEST for the last term.
 
-    The images of the elements of a term are in the same term for the other group, and after the last
-    one the terms do not change: no homomorphism makes the depth less.
+    Images of the elements of a term are in the same term for the other group, and after the last one
+    the terms do not change: so no homomorphism makes the depth less.
     """
     found = [0] * len(numbers)
     for at, term in enumerate(terms):
@@ -296,15 +298,14 @@ def _fits_by_marks(a, b):
 
 
 def _may_be_image(x, y):
-    """Tells whether an element with the order and the depths `y` may be an image of one with `x`."""
-    return x[0] % y[0] == 0 and x[1][0] <= y[1][0] and x[1][1] <= y[1][1]
+    """Tells whether an element of the kind `y` may be an image of one of the kind `x`."""
+    return x[0] % y[0] == 0 and x[1] <= y[1] and x[2] <= y[2]
 
 
 def _fits(source, target):
-    one = list(zip(source.orders, source.depths))
-    two = list(zip(target.orders, target.depths))
-    table = {x: [_may_be_image(x, y) for y in two] for x in one}
-    return [table[x] for x in one]
+    """Returns for each element of the source and each one of the target whether it may be the image."""
+    table = {x: [_may_be_image(x, y) for y in target.kinds] for x in source.kinds}
+    return [table[x] for x in source.kinds]
 
 
 def _central_fits(source, target, still):

@@ -10,7 +10,7 @@ from polychains.complement import (class_count, coboundaries, cocycles, combinat
 from polychains.errors import Malformed, Refused
 from polychains.group import Group
 from polychains.linear import span
-from polychains.subgroup import Subgroup, trivial, whole
+from polychains.subgroup import Subgroup, generated, normal_closure, trivial, whole
 
 FUNCTIONS = (prime_of, equations, complement, combination, complements, cocycles, coboundaries, class_count)
 
@@ -212,6 +212,23 @@ class Complements(unittest.TestCase):
                 self.assertEqual(sum(weight * value for weight, value in zip(weights, right)) % p, 1)
         self.assertTrue(kinds.count(True) > 50 and kinds.count(False) > 200)
 
+    def test_many_generators_and_coordinates(self):
+        chooser = random.Random(62)
+        for made in (direct(dihedral(4), dihedral(4)), direct(symmetric(4), abelian((2, 2))), abelian((2,) * 6),
+                     direct(symmetric(3), symmetric(3)), direct(dicyclic(2), abelian((2, 2)))):
+            plain = plain_of(made)
+            for _ in range(2):
+                other = plain_of(plain.other_generators(chooser).presentation)
+                for _ in range(6):
+                    n = normal_closure(other.group, chooser.sample(other.rows, 3))
+                    members = frozenset(n.all_members())
+                    if is_elementary(other, members):
+                        found = complement(other.group, n)
+                        self.assertIs(found is None, combination(other.group, n) is not None)
+                        if found is not None:
+                            self.assertEqual(set(found.all_members()) & members, {other.one})
+                            self.assertEqual(found.order * n.order, len(other.rows))
+
     def test_there_is_none_exactly_if_none_is_found_by_trying(self):
         for setting in settings(all_groups(), 1000):
             self.assertIs(complement(setting.plain.group, setting.n) is None, not setting.complements())
@@ -250,6 +267,18 @@ class Complements(unittest.TestCase):
         self.assertEqual(raised(Refused, complements, group, u).reason, "many")
         u = Subgroup(group, (group.generator(5),))
         self.assertEqual(len(complements(group, u)), 243)
+
+    def test_hundreds_of_complements(self):
+        for made, places, many in ((abelian((2,) * 6), (4, 5), 256), (abelian((2,) * 6), (1, 2, 5), 512), (abelian((3,) * 4), (0, 3), 81),
+                                   (direct(dihedral(4), abelian((2, 2, 2))), (4, 5), 64)):
+            group = Group(made)
+            n = Subgroup(group, tuple(group.generator(i) for i in places))
+            found = complements(group, n)
+            self.assertEqual(len({u.rows for u in found}), many)
+            self.assertEqual([u.rows for u in found], sorted(u.rows for u in found))
+            for u in found:
+                self.assertEqual(u.order * n.order, group.order)
+                self.assertEqual(generated(group, u.rows + n.rows), whole(group))
 
     def test_many_is_refused_above_1000_alone(self):
         for setting in settings(all_groups()):

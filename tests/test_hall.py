@@ -4,7 +4,8 @@ import unittest
 
 from helpers import odd_values, raised, unchanged
 from plain import larger_groups, plain_of, prime_factors, small_groups, tiny_groups
-from polychains.build import abelian, alternating, cyclic, dihedral, direct, metacyclic, symmetric, wreath
+from polychains.build import (abelian, alternating, cyclic, dihedral, direct, metacyclic, semidirect, symmetric,
+                              wreath)
 from polychains.errors import Malformed, Refused
 from polychains.group import Group
 from polychains.hall import hall, is_hall, moved_into, sylow, sylow_count, sylow_system
@@ -26,6 +27,14 @@ def subgroups(plain):
 
 def all_groups():
     return [*tiny_groups(), *small_groups(), *larger_groups()]
+
+
+def by_triangle(p):
+    """The rows of the length 2 modulo a prime, on which the symmetric group of 3 points acts.
+
+    They stand for sums of multiples of `e_0 - e_1` and `e_1 - e_2`, and the points move `e_0, e_1, e_2`.
+    """
+    return semidirect(abelian((p, p)), symmetric(3), [[(p - 1, 0), (1, 1)], [(0, 1), (p - 1, p - 1)]])
 
 
 class Hall(unittest.TestCase):
@@ -135,7 +144,8 @@ class Moving(unittest.TestCase):
     def test_large_groups(self):
         chooser = random.Random(71)
         for made in (direct(symmetric(4), symmetric(4)), wreath(cyclic(2), 7), metacyclic(31, 30, 3), wreath(symmetric(3), 2),
-                     direct(metacyclic(7, 6, 3), symmetric(4)), direct(dihedral(15), dihedral(9)), wreath(alternating(4), 2)):
+                     direct(metacyclic(7, 6, 3), symmetric(4)), direct(dihedral(15), dihedral(9)), wreath(alternating(4), 2),
+                     by_triangle(5), by_triangle(7), by_triangle(11)):
             group = Group(made)
             rows = list(group.all_elements())
             for primes in ((2,), (3,), (7,), (2, 3), (3, 5), (2, 7), (2, 3, 7)):

@@ -252,7 +252,7 @@ class Finding(unittest.TestCase):
                 self.assertIs(Hom(group, group, images).is_one_to_one(), True)
 
     def test_refused_large(self):
-        small, most, large = Group(cyclic(2)), Group(cyclic(200)), Group(cyclic(204))
+        small, most, large = Group(cyclic(2)), Group(cyclic(200)), Group(cyclic(203))
         for a, b in ((large, small), (small, large), (large, large), (Group(cyclic(1024)), Group(cyclic(1)))):
             self.assertEqual(raised(Refused, homs, a, b).reason, "large")
             self.assertEqual(raised(Refused, find_isomorphism, a, b).reason, "large")
@@ -269,6 +269,12 @@ class Finding(unittest.TestCase):
             self.assertEqual(raised(Refused, homs, Group(one), Group(two)).reason, "many")
         for made in (abelian((2,) * 4), abelian((2,) * 7), abelian((5, 5, 5)), abelian((3, 3, 3)), direct(dicyclic(2), abelian((2,) * 3))):
             self.assertEqual(raised(Refused, automorphisms, Group(made)).reason, "many")
+
+    def test_up_to_5000_are_told(self):
+        one, two = Group(abelian((5, 5, 2, 2, 2))), Group(abelian((2, 5, 5)))
+        self.assertEqual(len(homs(one, two)), 5000)
+        one, two = Group(abelian((2, 2, 2, 3, 3))), Group(abelian((3, 3, 2, 2)))
+        self.assertEqual(raised(Refused, homs, one, two).reason, "many")
 
     def test_many_automorphisms_are_counted_by_themselves(self):
         group = Group(wreath(dihedral(4), 2))
