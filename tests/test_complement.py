@@ -268,6 +268,15 @@ class Complements(unittest.TestCase):
         u = Subgroup(group, (group.generator(5),))
         self.assertEqual(len(complements(group, u)), 243)
 
+    def test_near_the_bound(self):
+        for p, many, expected in ((2, 7, 1024), (3, 5, 729), (5, 4, 625)):
+            group = Group(abelian((p,) * many))
+            plane = Subgroup(group, (group.generator(0), group.generator(many - 1)))
+            if expected > 1000:
+                self.assertEqual(raised(Refused, complements, group, plane).reason, "many")
+            else:
+                self.assertEqual(len({u.rows for u in complements(group, plane)}), expected)
+
     def test_hundreds_of_complements(self):
         for made, places, many in ((abelian((2,) * 6), (4, 5), 256), (abelian((2,) * 6), (1, 2, 5), 512), (abelian((3,) * 4), (0, 3), 81),
                                    (direct(dihedral(4), abelian((2, 2, 2))), (4, 5), 64)):
