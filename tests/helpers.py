@@ -2,11 +2,14 @@
 
 import itertools
 
+from polychains.console import Console
 from polychains.errors import Fault, Malformed, NoText, Refused
+from polychains.extension import Module, trivial_module
 from polychains.group import Group
 from polychains.maps import Hom
 from polychains.pres import Presentation
 from polychains.quotient import Quotient
+from polychains.replies import Reply
 from polychains.subgroup import Subgroup, trivial, whole
 
 
@@ -27,6 +30,8 @@ def odd_values():
         triangle(), (triangle(),), [triangle()], Group(triangle()), (Group(triangle()), 0),
         whole(Group(triangle())), trivial(Group(triangle())), (whole(Group(triangle())),), [trivial(Group(triangle()))],
         Quotient(Group(triangle()), whole(Group(triangle()))), Hom(Group(triangle()), Group(triangle()), ((0, 0), (0, 0))),
+        trivial_module(Group(triangle()), 2, 1), (trivial_module(Group(triangle()), 5, 2),), Console(), [Console()],
+        Reply("done"), (Reply("number", "1"),), ("", Reply("done")), ["", Reply("done")],
         Fault("word"), Malformed("word"), Refused("word"), NoText(3), (Refused("word"),),
     ]
 
@@ -68,6 +73,14 @@ def shown(value):
         return f"quotient{shown((value.source, value.kernel, value.group))}"
     if isinstance(value, Hom):
         return f"hom{shown((value.source, value.target, value.images))}"
+    if isinstance(value, Module):
+        return f"module{shown((value.group, value.p, value.d, value.matrices))}"
+    if isinstance(value, Reply):
+        return f"reply{shown((value.kind, value.text, value.data))}"
+    if isinstance(value, Console):
+        return f"console{shown((list(value), value.names()))}"
+    if isinstance(value, dict):
+        return f"dict{shown([list(value), list(value.values())])}"
     return repr(value)
 
 

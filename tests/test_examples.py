@@ -1,4 +1,4 @@
-"""The examples that the document shows, for the chapters that have landed."""
+"""The examples that the document shows."""
 
 import unittest
 
@@ -56,6 +56,21 @@ class Examples(unittest.TestCase):
         self.assertIs(complement(four, generated(four, [(0, 1)])) is None, True)
         group = Group(symmetric(3))
         self.assertEqual(len(complements(group, generated(group, [(0, 1)]))), 3)
+
+    def test_extension(self):
+        from polychains.build import cyclic
+        from polychains.extension import class_count, extension, trivial_module
+        from polychains.group import Group
+        two = trivial_module(Group(cyclic(2)), 2, 1)
+        self.assertEqual(class_count(two), 2)
+        self.assertEqual(str(extension(two, (1,))), "2 2: 0 1; 0 1; 0 0")
+
+    def test_console(self):
+        from polychains.console import Console
+        console = Console()
+        self.assertEqual(console.enter("let a = 2 3: 0 0; 0 2; 0 0").text, "2 3: 0 0; 0 2; 0 0")
+        self.assertEqual(console.enter("conjugate a 0,1 0,2").text, "yes")
+        self.assertEqual(console.enter("hall a 3").text, "3")
 
 
 if __name__ == "__main__":

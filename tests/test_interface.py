@@ -1,4 +1,4 @@
-"""The names, arguments and places that the document's interface tells, for the chapters that have landed."""
+"""The names, arguments and places that the document's interface tells."""
 
 import ast
 import importlib
@@ -30,6 +30,15 @@ FUNCTIONS = {
         cocycles(group,n) coboundaries(group,n) class_count(group,n)""",
     "hall": """is_hall(group,u,primes) hall(group,primes) sylow(group,p) moved_into(group,u,h) sylow_count(group,p)
         sylow_system(group)""",
+    "extension": """trivial_module(group,p,d) cocycles(module) coboundaries(module) class_count(module)
+        class_tails(module) extension(module,tails) is_split(module,tails)""",
+    "papers": """consistency_paper(presentation) member_paper(group,items,x) complement_paper(group,n)
+        hall_paper(group,primes) conjugate_paper(group,x,y)""",
+    "checker": """takes_consistent(presentation,paper) takes_member(group,items,x,paper) takes_complement(group,n,paper)
+        takes_hall(group,primes,paper) takes_conjugate(group,x,y,paper)""",
+    "sheet": """read_line(line)""",
+    "replies": """reply_to(names,line) defined(names,line) is_right(names,entry)""",
+    "log": """write_data(data) read_data(text) write_log(entries) read_log(text) first_wrong(entries)""",
 }
 
 CLASSES = {
@@ -47,6 +56,9 @@ CLASSES = {
     ("quotient", "Quotient"): """__init__(self,group,normal) image(self,x) lift(self,y) image_of(self,u) lifted(self,u)""",
     ("maps", "Hom"): """__init__(self,a,b,images) __eq__(self,other) value(self,x) then(self,other) kernel(self)
         image(self) is_one_to_one(self) is_onto(self)""",
+    ("extension", "Module"): "__init__(self,group,p,d,matrices) __eq__(self,other) acted(self,v,x)",
+    ("replies", "Reply"): "__init__(self,kind,text,data) __eq__(self,other)",
+    ("console", "Console"): "__init__(self,most) enter(self,line) __len__(self) __iter__(self) names(self) log(self)",
 }
 
 
@@ -78,6 +90,25 @@ class Interface(unittest.TestCase):
         from polychains.linear import all_rows
         self.assertTrue(inspect.isgeneratorfunction(all_rows))
         self.assertTrue(inspect.isgeneratorfunction(Group.all_elements))
+
+    def test_default_values(self):
+        from polychains.console import Console
+        from polychains.replies import Reply
+        told = inspect.signature(Reply).parameters
+        self.assertEqual([told[name].default for name in ("text", "data")], ["", ()])
+        most = inspect.signature(Console).parameters["most"]
+        self.assertEqual((most.kind, most.default), (inspect.Parameter.KEYWORD_ONLY, 300))
+
+    def test_fields(self):
+        from polychains.extension import Module
+        from polychains.group import Group
+        from polychains.pres import Presentation
+        from polychains.replies import Reply
+        group = Group(Presentation((2,), ((0,),), ((),)))
+        module = Module(group, 3, 1, [((2,),)])
+        self.assertEqual((module.group, module.p, module.d, module.matrices), (group, 3, 1, (((2,),),)))
+        reply = Reply("kind", "text", (1,))
+        self.assertEqual((reply.kind, reply.text, reply.data), ("kind", "text", (1,)))
 
     def test_init_defines_nothing(self):
         import polychains

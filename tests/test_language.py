@@ -108,7 +108,11 @@ class Language(unittest.TestCase):
         for node, where in self.each(ast.FunctionDef):
             self.assertLessEqual(node.end_lineno - node.lineno + 1, 40, where)
             self.assertEqual(node.decorator_list, [], where)
-            self.assertTrue(all(isinstance(value, ast.Constant) for value in node.args.defaults), where)
+            for value in (*node.args.defaults, *[value for value in node.args.kw_defaults if value]):
+                ast.literal_eval(value)
+                self.assertIsInstance(value, (ast.Constant, ast.Tuple, ast.UnaryOp), where)
+            if node.args.kwonlyargs:
+                self.assertTrue(node.name == "__init__" or not node.name.startswith("__"), where)
 
     def test_only_plain_statements_and_expressions(self):
         for node, where in self.each(ast.AST):
@@ -128,11 +132,21 @@ class Language(unittest.TestCase):
                     self.assertIsInstance(node.value, ast.Constant, name)
                 elif isinstance(node, ast.Assign):
                     self.assertEqual(len(node.targets), 1, name)
-                    ast.literal_eval(node.value)
+                    self.assert_plain(node.value, tree.body[:at], name)
                 else:
                     self.assertIsInstance(node, (ast.ImportFrom, ast.FunctionDef, ast.ClassDef), name)
             names = module_names(tree)
             self.assertEqual(len(names), len(set(names)), name)
+
+    def assert_plain(self, value, above, name):
+        """Checks that a value is plain, or a tuple or dict of plain values and of functions that stand above."""
+        held = {ast.Dict: "values", ast.Tuple: "elts"}.get(value.__class__)
+        for item in getattr(value, held) if held else [value]:
+            if isinstance(item, ast.Name):
+                self.assertIn(item.id, [node.name for node in above if isinstance(node, ast.FunctionDef)], name)
+            else:
+                self.assertNotIsInstance(item, (ast.List, ast.Dict), name)
+                ast.literal_eval(item)
 
     def assert_only_called(self, tree, words, name):
         """Checks that the words are used, and only called with arguments by position, in functions."""
