@@ -22,9 +22,8 @@ def _left_of(group, rows, x):
     """Returns what sifting by rows with ascending places leaves of an element, and the exponents."""
     exponents = []
     for row in rows:
-        at = group.place(row)
-        # Where an earlier item is left, sifting ends: no later row may take it away.
-        exponent = x[at] if group.place(x) == at else 0
+        # An item in front of this place that is left stays, so then the element does not sift to 1.
+        exponent = x[group.place(row)]
         exponents.append(exponent)
         x = group.multiply(group.power(row, -exponent), x)
     return x, tuple(exponents)

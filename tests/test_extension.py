@@ -265,6 +265,7 @@ class Modules(unittest.TestCase):
                       trivial_module(two, 3, 2), *odd_values(), two, two.presentation, ((2,),)):
             self.assertIs(made == other, False)
             self.assertIs(made != other, True)
+        self.assertIs(trivial_module(four, 3, 1) == trivial_module(Group(abelian((2, 2))), 3, 1), False)
         self.assertIs(trivial_module(two, 5, 1) == trivial_module(two, 3, 1), False)
         self.assertIs(trivial_module(two, 3, 1) == trivial_module(two, 3, 2), False)
         # Without generators only the other fields tell modules apart.

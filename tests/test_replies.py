@@ -7,6 +7,7 @@ from helpers import odd_values, shown, unchanged
 from plain import plain_of, small_groups
 from polychains import replies
 from polychains.build import abelian, cyclic, dihedral, direct, metacyclic, symmetric, wreath
+from polychains.collect import overlaps
 from polychains.errors import Malformed
 from polychains.papers import complement_paper, conjugate_paper, consistency_paper, hall_paper, member_paper
 from polychains.pres import Presentation, read_presentation
@@ -72,6 +73,16 @@ class Replies(unittest.TestCase):
             one, two, three = (one,), (two,), (three,)
         self.assertIs(Reply("x", "", one) == Reply("x", "", two), True)
         self.assertIs(Reply("x", "", one) == Reply("x", "", three), False)
+        self.assertIs(Reply("x", "", (one, 1)) == Reply("x", "", (two,)), False)
+        self.assertIs(Reply("x", "", (one, 1)) == Reply("x", "", (two, 1)), True)
+
+    def test_equality_of_lists(self):
+        for one, two, same in (([1], [1], True), ([1], [True], False), ([0], [False], False), ([[1]], [[True]], False), (([1],), ([True],), False),
+                               ([], [], True), ([], (), False), ([1], (1,), False), ([(1,)], [[1]], False), ([1, 2], [1], False),
+                               ([(1, [0])], [(1, [0])], True), (1, True, False), (False, 0, False), (True, True, True)):
+            self.assertIs(Reply("x", "", one) == Reply("x", "", two), same)
+            self.assertIs(Reply("x", one) == Reply("x", two), same)
+            self.assertIs(Reply(two) == Reply(one), same)
 
     def test_each_command(self):
         for line in ("let x = 2: 0", "let a = 2 3: 0 1; 0 2; 0 0", "let q = :", "direct x a b", "direct a a a", "direct x t t",
@@ -244,6 +255,14 @@ class RightEntries(unittest.TestCase):
             papers = [("consistent",), ("overlap", (1, 1, 1)), ("overlap", (2, 1, 1)), ("overlap", ())]
             taken += sum(self.check({"a": made}, "consistent a", paper) for paper in papers for made in names.values())
         self.assertGreater(taken, 250)
+
+    def test_all_overlaps(self):
+        made = read_presentation("2 3 2: 0 1 0; 0 0 1; 0 0 1; 0 0 1; 0 0 0; 0 0 0")
+        words = [word for word, _, _ in overlaps(made)]
+        taken = [word for word in words if self.check({"a": made}, "consistent a", ("overlap", word))]
+        self.assertGreater(len(taken), 2)
+        self.assertLess(len(taken), len(words))
+        self.assertEqual(reply_to({"a": made}, "consistent a").data, ("overlap", taken[0]))
 
     def test_papers_that_are_only_equal_to_accepted_ones(self):
         names = {"a": symmetric(3)}
