@@ -205,8 +205,8 @@ def _carried_out(names, command):
         made = make(parts)
         return _presented(made), (parts["N"], made)
     if word in PAPERS:
-        find = PAPERS[word]
-        paper = find(parts)
+        make = PAPERS[word]
+        paper = make(parts)
         return Reply(word, _paper_text(parts, paper), paper), None
     tell = TELLING[word]
     return tell(parts), None
